@@ -1,0 +1,1 @@
+"""Setchooser: when striking values is enough to fill a net of ties."""

@@ -1,0 +1,1 @@
+"""Names, books, nets and fillings."""

@@ -1,0 +1,1 @@
+"""Choosers of books."""

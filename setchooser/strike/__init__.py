@@ -1,0 +1,1 @@
+"""Striking values that cannot stand."""
