@@ -7,7 +7,7 @@ from helpers import (
     FORK, HORN, ODD, RING, STEP, XOR, Checks, all_fillings, net_of, no_books, no_nets, random_book, random_net,
     rows_where, same, strange_values)
 from setchooser.base.books import Book
-from setchooser.base.fillings import asked, case_paper, clashes, is_case_paper
+from setchooser.base.fillings import asked, case_paper, clashes, first_filling, is_case_paper
 from setchooser.base.nets import Net
 from setchooser.errors import InvalidBook, InvalidNet, InvalidOperation
 
@@ -229,6 +229,18 @@ class Papers(unittest.TestCase):
         net = net_of(60, pairs + [("xor", (57, 58)), ("xor", (57, 59)), ("xor", (58, 59))])
         self.check(XOR, net, "none")
         self.assertEqual(asked(XOR, net, case_paper(XOR, net)[1]), (57, 58, 59))
+
+    def test_a_part_with_many_fillings_beside_one_without(self):
+        # The search tries the first part ahead of the ring, but must not go through all its fillings.
+        source = random.Random(23)
+        book = XOR.with_tie("even", 3, rows_where(2, 3, lambda *row: sum(row) & 1 == 0))
+        ties = {("even", tuple(source.sample(range(50), 3))) for _ in range(30)}
+        ring = [("xor", (unknown, 50 + (unknown - 49) % 9)) for unknown in range(50, 59)]
+        many = [("even", (unknown, unknown, 59)) for unknown in range(50)]
+        net = net_of(60, list(ties) + ring + many)
+        self.check(book, net, "none")
+        self.assertEqual(asked(book, net, case_paper(book, net)[1]), tuple(range(50, 59)))
+        self.assertIsNone(first_filling(book, net))
 
     def test_sixty_different_unknowns(self):
         book = Book(4, {"ne": (2, rows_where(4, 2, lambda one, other: one != other))})

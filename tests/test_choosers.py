@@ -56,7 +56,8 @@ def no_choosers(book):
         near.append({other: 0 for other in book.sets if other != taken})
         near.append({other if other != taken else (): 0 for other in book.sets})
         near.append({other if other != taken else (True,) + taken[1:]: 0 for other in book.sets})
-        near.append({other if other != taken else taken + (4,): 0 for other in book.sets})
+        near.append({other if other != taken else taken + (book.size,): 0 for other in book.sets})
+        near.append({other if other != taken else (book.size,): 0 for other in book.sets})
         near.append({other if other != taken else "a": 0 for other in book.sets})
     near += [{**least(book), (): 0}, {**least(book), None: 0}, tuple(least(book).items()), tuple(book.sets)]
     return [value for value in near + strange_values() if not (isinstance(value, dict) and same(
@@ -92,6 +93,13 @@ class Errors(unittest.TestCase, Checks):
         self.refuses(is_good, (HORN, {}), [book, None])
         self.refuses(chooser, (HORN,), [book])
         self.refuses(choosers, (HORN,), [book])
+
+    def test_choosers_of_a_book_of_one_value(self):
+        book = Book(1, {"a": (1, ((0,),))})
+        self.assertIs(does_keep(book, {(0,): 0}, "a"), True)
+        for value in no_choosers(book):
+            self.fails(InvalidChooser, does_keep, book, value, "a")
+            self.assertIs(is_good(book, value), False)
 
     def test_choosers_of_other_books(self):
         self.fails(InvalidChooser, does_keep, HORN, least(STEP), "if")

@@ -210,6 +210,8 @@ class Lists(unittest.TestCase):
         self.assertIs(are_lists(XOR, Net(1, (("xor", (0, 0)),)), ((0, 1),)), True)
         self.assertIs(are_lists(XOR, Net(1, (("xor", (0, 0)),)), ((0,),)), False)
         self.assertIs(are_lists(HORN, Net(2, ()), ((), (1,))), True)
+        for taken in ((2,), (0, 2), (0, 1, 2), (True,), (1, 0), [1], None):
+            self.assertIs(are_lists(HORN, Net(2, ()), ((), taken)), False)
 
     def test_all_lists_of_small_nets(self):
         source = random.Random(11)
