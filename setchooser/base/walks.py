@@ -44,19 +44,20 @@ class Walk:
     def step_on(self, least):
         """Gives the next unknown its first value from the least one on that may do: whether one did."""
         unknown = len(self.chosen)
-        for value in VALUES_IN[self.layers[-1][unknown]]:
+        layer = self.layers[-1]
+        for value in VALUES_IN[layer[unknown]]:
             if value >= least:
-                masks = list(self.layers[-1])
+                masks = list(layer)
                 masks[unknown] = 1 << value
-                if self.is_open(masks, unknown):
+                if self.stays_open(masks, unknown):
                     self.layers.append(masks)
                     self.chosen.append(value)
                     return True
                 self.dead_ends += 1
         return False
 
-    def is_open(self, masks, unknown):
-        """Narrows the masks by the value that the unknown has now; whether they may hold a filling."""
+    def stays_open(self, masks, unknown):
+        """Narrows the masks by the value that the unknown has now. Whether they may hold a filling."""
         if masks[unknown] != self.layers[-1][unknown]:
             if self.web.narrow(masks, self.web.no_blame(), self.web.touching[unknown], []) is not None:
                 return False

@@ -19,9 +19,9 @@ def is_chooser(book, value):
                      for taken, led in value.items()]))
 
 
-def check_chooser(book, chooser):
+def check_chooser(book, value):
     """An error unless this is a chooser of the book."""
-    if not is_chooser(book, chooser):
+    if not is_chooser(book, value):
         raise InvalidChooser("this is no dict from all sets of the book to values of it")
 
 
@@ -67,10 +67,10 @@ def does_keep(book, chooser, name):
     return keeps(book, chooser, name, Sieve())
 
 
-def keeps(book, chooser, name, sieve):
+def keeps(book, table, name, sieve):
     """As does_keep, for what is known to be right."""
     rows = {row: True for row in book[name]}
-    return all([tuple([chooser[taken] for taken in shadow]) in rows for shadow in shadows_of(book, name, sieve)])
+    return all([tuple([table[taken] for taken in shadow]) in rows for shadow in shadows_of(book, name, sieve)])
 
 
 def is_good(book, value):
