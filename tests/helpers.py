@@ -34,7 +34,9 @@ def strange_values():
         ("none", ()), ("none", (0,)), ("filled",), ("filled", None, None), (10 ** 60,), (-1,), nested(10),
         [], [0], [0, 1], [[]], [(0, 1)], ["if", (0, 1)], [0, 0, 0],
         {}, {"a": 1}, {0: 0}, {(0,): 0}, {(0, 1): 1}, {(0, 0): 0}, {True: False}, {None: {}},
-        {(0,): 0, (0, 1): 0, (1,): True}, {(0, True): 1}, {"if": (2, ((0, 0),))}, {nested(9): 0},
+        ((0, 0), (0, 1)), ((0, 0), (False, 1)), ((0, 1), (1, 0)), ("chooser", {(0,): 0, (0, 1): 0, (1,): 1}),
+        ("empty", 0, {}), ("empty", 0, {(0, 0): 1, (0, 1): 4}), {0: (0,)}, {1: (1,)}, {1: (True,)}, {True: (1,)},
+        {(0,): 0, (0, 1): 0, (1,): 1}, {(0, 0): (1, ((0, 1), (1, 0)))}, {(0,): 0, (0, 1): 0, (1,): True}, {(0, True): 1}, {"if": (2, ((0, 0),))}, {nested(9): 0},
         HORN, XOR, FORK, ODD, (HORN, FORK), [HORN], InvalidName("a"), InvalidNumber(3), TooMany(200), {"a": FORK},
     ]
 
@@ -105,6 +107,103 @@ def all_fillings(book, net):
     """All fillings by a check of all tuples of values."""
     return [values for values in itertools.product(range(book.size), repeat=net.size)
             if all(tuple(values[unknown] for unknown in unknowns) in book[name] for name, unknowns in net.ties)]
+
+
+def rounds(book, net, given=None):
+    """The lists and the ranks, by rounds as point 0.10 tells them, that begin with the given lists of a dict."""
+    left = [set((given or {}).get(unknown, range(book.size))) for unknown in range(net.size)]
+    ranks = {}
+    for rank in itertools.count(1):
+        found = set()
+        for name, unknowns in net.ties:
+            for place, unknown in enumerate(unknowns):
+                for value in left[unknown]:
+                    if not any(row[place] == value and all(
+                            row[other] in left[unknowns[other]] for other in range(len(row)) if other != place)
+                            for row in book[name]):
+                        found.add((unknown, value))
+        if not found:
+            return tuple(tuple(sorted(taken)) for taken in left), ranks
+        for unknown, value in found:
+            left[unknown].discard(value)
+            ranks[unknown, value] = rank
+
+
+def behind(book, net, items, values):
+    """The number of the items that a case tree takes up, None if there is none: told by the words of 4.1."""
+    if not items:
+        return None
+    first = items[0]
+    if type(first) is int:
+        if not 0 <= first < net.size or first in values:
+            return None
+        taken = 1
+        for value in range(book.size):
+            more = behind(book, net, items[taken:], {**values, first: value})
+            if more is None:
+                return None
+            taken += more
+        return taken
+    if not any(same(first, tie) for tie in net.ties):
+        return None
+    name, unknowns = first
+    for row in book[name]:
+        if all(values.get(unknown, value) == value for unknown, value in zip(unknowns, row)):
+            return None
+    return 1
+
+
+def is_tree(book, net, value):
+    return isinstance(value, tuple) and behind(book, net, value, {}) == len(value)
+
+
+def told_by_rows(rows):
+    """The shadow that some rows tell."""
+    return tuple(tuple(sorted(set(column))) for column in zip(*rows))
+
+
+def all_shadows(rows):
+    """The shadows of all choices of rows."""
+    return {told_by_rows(some) for many in range(1, len(rows) + 1) for some in itertools.combinations(rows, many)}
+
+
+def all_choosers(book):
+    for values in itertools.product(range(book.size), repeat=len(book.sets)):
+        yield dict(zip(book.sets, values))
+
+
+def all_good(book):
+    """The good choosers by a check of all choosers and all choices of rows."""
+    told = [(all_shadows(book[name]), set(book[name])) for name in book]
+    return [table for table in all_choosers(book)
+            if all(tuple(table[taken] for taken in shadow) in rows for found, rows in told for shadow in found)]
+
+
+def least(book):
+    """The chooser that leads each set to its least value."""
+    return {taken: taken[0] for taken in book.sets}
+
+
+def all_rows(size, places):
+    return rows_where(size, places, lambda *row: True)
+
+
+def no_choosers(book):
+    """Values that are no choosers of the book, some of them nearly."""
+    near = []
+    for taken in book.sets:
+        for value in (book.size, -1, True, None, "0", (0,), 10 ** 99):
+            near.append({**least(book), taken: value})
+        near.append({other: 0 for other in book.sets if other != taken})
+        near.append({other if other != taken else (): 0 for other in book.sets})
+        near.append({other if other != taken else (True,) + taken[1:]: 0 for other in book.sets})
+        near.append({other if other != taken else taken + (book.size,): 0 for other in book.sets})
+        near.append({other if other != taken else (book.size,): 0 for other in book.sets})
+        near.append({other if other != taken else "a": 0 for other in book.sets})
+    near += [{**least(book), (): 0}, {**least(book), None: 0}, tuple(least(book).items()), tuple(book.sets)]
+    return [value for value in near + strange_values() if not (isinstance(value, dict) and same(
+        sorted(value, key=repr), sorted(book.sets, key=repr)) and all(
+            type(led) is int and 0 <= led < book.size for led in value.values()))]
 
 
 class Checks:

@@ -4,8 +4,8 @@ import random
 import unittest
 
 from helpers import (
-    FORK, HORN, ODD, RING, STEP, XOR, Checks, all_fillings, net_of, no_books, no_nets, random_book, random_net,
-    rows_where, same, strange_values)
+    FORK, HORN, ODD, RING, STEP, XOR, Checks, all_fillings, is_tree, net_of, no_books, no_nets, random_book,
+    random_net, rows_where, same, strange_values)
 from setchooser.base.books import Book
 from setchooser.base.fillings import asked, case_paper, clashes, first_filling, is_case_paper
 from setchooser.base.nets import Net
@@ -16,34 +16,6 @@ DEEP = (0, 1, ("xor", (0, 1)), 2, ("xor", (0, 2)), ("xor", (1, 2)),
         1, 2, ("xor", (1, 2)), ("xor", (0, 2)), ("xor", (0, 1)))
 WHOLE = (0, ("xor", (0, 1)), ("xor", (0, 1)))
 LOOP = Net(1, (("xor", (0, 0)),))
-
-
-def behind(book, net, items, values):
-    """The number of the items that a case tree takes up, None if there is none: told by the words of 4.1."""
-    if not items:
-        return None
-    first = items[0]
-    if type(first) is int:
-        if not 0 <= first < net.size or first in values:
-            return None
-        taken = 1
-        for value in range(book.size):
-            more = behind(book, net, items[taken:], {**values, first: value})
-            if more is None:
-                return None
-            taken += more
-        return taken
-    if not any(same(first, tie) for tie in net.ties):
-        return None
-    name, unknowns = first
-    for row in book[name]:
-        if all(values.get(unknown, value) == value for unknown, value in zip(unknowns, row)):
-            return None
-    return 1
-
-
-def is_tree(book, net, value):
-    return isinstance(value, tuple) and behind(book, net, value, {}) == len(value)
 
 
 class Examples(unittest.TestCase):

@@ -5,8 +5,8 @@ import random
 import unittest
 
 from helpers import (
-    FORK, HORN, RING, STEP, XOR, Checks, all_fillings, no_books, no_names_of, random_book, random_net, rows_where,
-    same, strange_values)
+    FORK, HORN, RING, STEP, XOR, Checks, all_choosers, all_fillings, all_good, all_rows, all_shadows, least, no_books,
+    no_choosers, no_names_of, random_book, random_net, rows_where, same, strange_values, told_by_rows)
 from setchooser.base.books import Book
 from setchooser.base.nets import Net
 from setchooser.choose import choosers as module
@@ -14,55 +14,6 @@ from setchooser.choose.choosers import (
     MAX_CHOOSERS, chooser, choosers, does_keep, is_good, is_shadow, shadows)
 from setchooser.errors import InvalidBook, InvalidChooser, TooMany, UnknownName
 from setchooser.strike.strikes import lists
-
-
-def told_by_rows(rows):
-    """The shadow that some rows tell."""
-    return tuple(tuple(sorted(set(column))) for column in zip(*rows))
-
-
-def all_shadows(rows):
-    """The shadows of all choices of rows."""
-    return {told_by_rows(some) for many in range(1, len(rows) + 1) for some in itertools.combinations(rows, many)}
-
-
-def all_choosers(book):
-    for values in itertools.product(range(book.size), repeat=len(book.sets)):
-        yield dict(zip(book.sets, values))
-
-
-def all_good(book):
-    """The good choosers by a check of all choosers and all choices of rows."""
-    told = [(all_shadows(book[name]), set(book[name])) for name in book]
-    return [table for table in all_choosers(book)
-            if all(tuple(table[taken] for taken in shadow) in rows for found, rows in told for shadow in found)]
-
-
-def least(book):
-    """The chooser that leads each set to its least value."""
-    return {taken: taken[0] for taken in book.sets}
-
-
-def all_rows(size, places):
-    return rows_where(size, places, lambda *row: True)
-
-
-def no_choosers(book):
-    """Values that are no choosers of the book, some of them nearly."""
-    near = []
-    for taken in book.sets:
-        for value in (book.size, -1, True, None, "0", (0,), 10 ** 99):
-            near.append({**least(book), taken: value})
-        near.append({other: 0 for other in book.sets if other != taken})
-        near.append({other if other != taken else (): 0 for other in book.sets})
-        near.append({other if other != taken else (True,) + taken[1:]: 0 for other in book.sets})
-        near.append({other if other != taken else taken + (book.size,): 0 for other in book.sets})
-        near.append({other if other != taken else (book.size,): 0 for other in book.sets})
-        near.append({other if other != taken else "a": 0 for other in book.sets})
-    near += [{**least(book), (): 0}, {**least(book), None: 0}, tuple(least(book).items()), tuple(book.sets)]
-    return [value for value in near + strange_values() if not (isinstance(value, dict) and same(
-        sorted(value, key=repr), sorted(book.sets, key=repr)) and all(
-            type(led) is int and 0 <= led < book.size for led in value.values()))]
 
 
 class Examples(unittest.TestCase):

@@ -8,7 +8,7 @@ from helpers import FORK, HORN, ODD, XOR, all_fillings, random_book, random_net,
 from setchooser.base.masks import MANY_IN, VALUES_IN, full_mask, mask_of, rows_mask, rows_with
 from setchooser.base.sieves import MOST_KEPT, Sieve
 from setchooser.base.walks import Walk
-from setchooser.base.webs import any_filling, first_settled, web_of
+from setchooser.base.webs import any_filling, does_settle, first_settled, web_of
 
 
 class Masks(unittest.TestCase):
@@ -74,12 +74,38 @@ class Searches(unittest.TestCase):
         self.assertEqual(web.settle(masks, [1, 0, 0, 0]), (None, 0))
 
     def test_first_settled(self):
-        self.assertIn(first_settled(web_of(HORN, FORK)), all_fillings(HORN, FORK))
-        self.assertIsNone(first_settled(web_of(XOR, ODD)))
+        self.assertIn(first_settled(web_of(HORN, FORK), [3, 3, 3]), all_fillings(HORN, FORK))
+        self.assertEqual(first_settled(web_of(HORN, FORK), [3, 2, 3]), (0, 1, 0))
+        self.assertIsNone(first_settled(web_of(HORN, FORK), [2, 3, 3]))
+        self.assertIsNone(first_settled(web_of(XOR, ODD), [3, 3, 3]))
+
+    def test_masks_that_are_empty(self):
+        web = web_of(XOR, ODD.without_tie("xor", (0, 1)).with_unknowns(1))
+        for masks in ([3, 3, 3, 0], [0, 3, 3, 3]):
+            self.assertIsNone(first_settled(web, masks))
+            self.assertIsNone(Walk(web, masks).following())
+        self.assertEqual(first_settled(web, [3, 3, 2, 2]), (0, 0, 1, 1))
+
+    def test_the_masks_that_are_passed_stay_as_they_are(self):
+        masks = [3, 2, 3]
+        first_settled(web_of(HORN, FORK), masks)
+        walk = Walk(web_of(HORN, FORK), masks)
+        self.assertEqual((walk.following(), walk.following()), ((0, 1, 0), None))
+        self.assertEqual(masks, [3, 2, 3])
+
+    def test_does_settle(self):
+        source = random.Random(27)
+        for _ in range(60):
+            book = random_book(source, source.randint(1, 4), 3, 0.7)
+            net = random_net(source, book, 3, 5)
+            web = web_of(book, net)
+            told = all_fillings(book, net)
+            for values in itertools.product(range(book.size), repeat=3):
+                self.assertIs(does_settle(web, values), values in told)
 
     def test_a_walk_that_has_ended_stays_at_its_end(self):
         for book, net in ((HORN, FORK), (XOR, ODD), (XOR, ODD.without_tie("xor", (0, 1)))):
-            walk = Walk(web_of(book, net))
+            walk = Walk(web_of(book, net), [3] * net.size)
             for filling in all_fillings(book, net) + [None, None]:
                 self.assertEqual(walk.following(), filling)
 
@@ -90,7 +116,7 @@ class Searches(unittest.TestCase):
         net = random_net(random.Random(26), book.only(()), 20, 0)
         for name, unknowns in ring:
             net = net.with_tie(name, unknowns)
-        walk = Walk(web_of(book, net))
+        walk = Walk(web_of(book, net), [3] * 20)
         self.assertEqual(walk.following(), (1,) + (0,) * 19)
         self.assertEqual(walk.following(), (1,) + (0,) * 18 + (1,))
 

@@ -6,7 +6,7 @@ import unittest
 
 from helpers import (
     FORK, HORN, ODD, RING, STEP, XOR, Checks, all_fillings, net_of, no_books, no_nets, random_book, random_net,
-    rows_where, same, strange_values)
+    rounds, rows_where, same, strange_values)
 from setchooser.base.books import Book
 from setchooser.base.nets import Net
 from setchooser.errors import InvalidBook, InvalidNet, InvalidOperation
@@ -15,26 +15,6 @@ from setchooser.strike.strikes import are_lists, emptied, is_strikes, lists, str
 
 ONE = FORK.with_tie("yes", (1,))
 FULL = FORK.with_tie("yes", (0,))
-
-
-def rounds(book, net):
-    """The lists and the ranks, by rounds as point 0.10 tells them."""
-    left = [set(range(book.size)) for _ in range(net.size)]
-    ranks = {}
-    for rank in itertools.count(1):
-        found = set()
-        for name, unknowns in net.ties:
-            for place, unknown in enumerate(unknowns):
-                for value in left[unknown]:
-                    if not any(row[place] == value and all(
-                            row[other] in left[unknowns[other]] for other in range(len(row)) if other != place)
-                            for row in book[name]):
-                        found.add((unknown, value))
-        if not found:
-            return tuple(tuple(sorted(taken)) for taken in left), ranks
-        for unknown, value in found:
-            left[unknown].discard(value)
-            ranks[unknown, value] = rank
 
 
 def are_such_lists(book, net, value):

@@ -159,6 +159,12 @@ def check_book(book):
         raise InvalidBook("there should be a book")
 
 
+def check_set_of_values(book, value):
+    """An error unless this is a set of values of the book, perhaps the empty one."""
+    if not is_set_of_values(book, value):
+        raise InvalidOperation("this is no set of values of the book")
+
+
 def check_name_of(book, name):
     """An error unless this is the name of a tie of the book."""
     if name not in book:

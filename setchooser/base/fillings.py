@@ -35,13 +35,15 @@ def is_filling(book, net, value):
 def first_filling(book, net):
     """The first filling in Python's order, or None."""
     check_both(book, net)
-    return Walk(web_of(book, net)).following()
+    web = web_of(book, net)
+    return Walk(web, web.whole()).following()
 
 
 def fillings(book, net):
     """Yields all fillings, ascending."""
     check_both(book, net)
-    walk = Walk(web_of(book, net))
+    web = web_of(book, net)
+    walk = Walk(web, web.whole())
     filling = walk.following()
     while filling is not None:
         yield filling
@@ -52,7 +54,7 @@ def case_paper(book, net):
     """A paper: a filling of the net, or a case tree that there is none."""
     check_both(book, net)
     web = web_of(book, net)
-    filling = first_settled(web)
+    filling = first_settled(web, web.whole())
     if filling is not None:
         return "filled", filling
     return "none", case_tree(book, web)

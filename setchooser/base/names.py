@@ -32,6 +32,14 @@ def is_ascending(values):
     return all([one < other for one, other in zip(values, values[1:])])
 
 
+def tuples_of(parts, length):
+    """All tuples with so many of the parts, in the order that the parts have."""
+    told = [()]
+    for _ in range(length):
+        told = [(*before, part) for before in told for part in parts]
+    return told
+
+
 def is_set(value):
     """Whether the value is an ascending tuple of integers of at least 0."""
     return isinstance(value, tuple) and all([is_number(part) for part in value]) and is_ascending(value)

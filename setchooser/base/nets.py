@@ -128,9 +128,8 @@ class Net:
 
     def made_one(self, one, other):
         """The net in which the first unknown stands wherever the second one stood."""
-        for unknown in (one, other):
-            if not is_below(unknown, self._size):
-                raise InvalidNumber(unknown)
+        check_unknown(self, one)
+        check_unknown(self, other)
         moved = [one if unknown == other else unknown for unknown in range(self._size)]
         return Net(self._size, moved_ties(self._ties, moved))
 
@@ -181,6 +180,12 @@ def check_net(net):
     """An error unless this is a net."""
     if not isinstance(net, Net):
         raise InvalidNet("there should be a net")
+
+
+def check_unknown(net, unknown):
+    """An error unless this is an unknown of the net."""
+    if not is_below(unknown, net.size):
+        raise InvalidNumber(unknown)
 
 
 def check_belongs(book, net):

@@ -1,20 +1,21 @@
 """Walks: the fillings of a web one after another."""
 
 from setchooser.base.masks import VALUES_IN
-from setchooser.base.webs import any_filling
+from setchooser.base.webs import any_filling, narrow_all
 
 # After so many dead ends behind one another each further step is proved to lead to a filling first.
 PATIENCE = 30
 
 
 class Walk:
-    """A place among the tuples of values of a web, from which it goes to the next filling.
+    """A place among the tuples of values of the masks, from which it goes to the next filling of a web.
 
     The layer with index k has the masks that are left when the first k unknowns have their values.
     """
 
-    def __init__(self, web):
+    def __init__(self, web, masks):
         self.web = web
+        self.masks = list(masks)
         self.layers = []
         self.chosen = []
         self.dead_ends = 0
@@ -34,10 +35,9 @@ class Walk:
 
     def begin(self):
         """Makes the first layer. The least value that may come next, None if there is no filling."""
-        masks = self.web.whole()
-        first = list(range(len(self.web.parts)))
+        masks = list(self.masks)
         self.layers.append(masks)
-        if self.web.narrow(masks, self.web.no_blame(), first, []) is not None:
+        if not narrow_all(self.web, masks):
             return None
         return None if any_filling(self.web, masks) is None else 0
 

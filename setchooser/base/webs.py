@@ -125,12 +125,22 @@ def any_filling(web, masks):
     return web.settle(masks, web.no_blame())[0]
 
 
-def first_settled(web):
-    """The filling that a search finds first, or None."""
-    masks = web.whole()
-    if web.narrow(masks, web.no_blame(), list(range(len(web.parts))), []) is not None:
-        return None
-    return any_filling(web, masks)
+def narrow_all(web, masks):
+    """Narrows the masks by all parts. Whether each unknown is left some value."""
+    # Narrowing alone does not see the empty list of an unknown without ties.
+    return 0 not in masks and web.narrow(masks, web.no_blame(), list(range(len(web.parts))), []) is None
+
+
+def first_settled(web, masks):
+    """The filling with values of the masks that a search finds first, or None."""
+    left = list(masks)
+    return any_filling(web, left) if narrow_all(web, left) else None
+
+
+def does_settle(web, values):
+    """Whether these values, one for each unknown, are a filling."""
+    return all([rows_mask((tuple([values[unknown] for unknown in scope]),)) & rows
+                for scope, rows, ties in web.parts])
 
 
 def web_of(book, net):

@@ -1,8 +1,8 @@
 """Shadows of ties, and the choosers that keep them."""
 
 from setchooser.base.books import check_book, check_name_of, is_set_of_values
-from setchooser.base.masks import mask_of, rows_mask
-from setchooser.base.names import is_below
+from setchooser.base.masks import VALUES_IN, full_mask, mask_of, rows_mask
+from setchooser.base.names import is_below, tuples_of
 from setchooser.base.nets import Net
 from setchooser.base.sieves import Sieve
 from setchooser.base.walks import Walk
@@ -47,11 +47,9 @@ def shadows(book, name):
 def shadows_of(book, name, sieve):
     """As shadows, for what is known to be right."""
     rows = rows_mask(book[name])
-    told = [()]
-    for _ in range(book.places(name)):
-        told = [(*before, taken) for before in told for taken in book.sets]
     masks = {taken: mask_of(taken) for taken in book.sets}
-    return tuple([shadow for shadow in told if is_left(sieve, rows, tuple([masks[taken] for taken in shadow]))])
+    return tuple([shadow for shadow in tuples_of(book.sets, book.places(name))
+                  if is_left(sieve, rows, tuple([masks[taken] for taken in shadow]))])
 
 
 def is_left(sieve, rows, masks):
@@ -89,9 +87,20 @@ def shadow_net(book):
     return Net(len(book.sets), tuple(sorted(ties)))
 
 
-def walk_of(book):
-    """The walk through the good choosers, which are the fillings of the net of the shadows."""
-    return Walk(web_of(book, shadow_net(book)))
+def free_masks(book):
+    """For each set, in their order, the mask of all values, to which a chooser may lead it."""
+    return [full_mask(book.size) for _ in book.sets]
+
+
+def fixing_masks(book, values):
+    """As free_masks, but for choosers that fix these values: the sets of them alone have just them."""
+    return [mask_of(taken) if len(taken) == 1 and taken[0] in values else full_mask(book.size)
+            for taken in book.sets]
+
+
+def walk_of(book, masks):
+    """The walk through the good choosers, fillings of the net of the shadows, that lead into the masks."""
+    return Walk(web_of(book, shadow_net(book)), masks)
 
 
 def chooser_with(book, values):
@@ -99,17 +108,27 @@ def chooser_with(book, values):
     return {taken: value for taken, value in zip(book.sets, values)}
 
 
+def led_by(table, masks):
+    """The values to which a chooser leads the sets of these masks, none of which is empty."""
+    return tuple([table[VALUES_IN[mask]] for mask in masks])
+
+
+def first_into(book, masks):
+    """The first good chooser that leads each set to a value of its mask, or None."""
+    values = walk_of(book, masks).following()
+    return None if values is None else chooser_with(book, values)
+
+
 def chooser(book):
     """The first good chooser, or None."""
     check_book(book)
-    values = walk_of(book).following()
-    return None if values is None else chooser_with(book, values)
+    return first_into(book, free_masks(book))
 
 
 def choosers(book):
     """The ascending tuple of the good choosers."""
     check_book(book)
-    walk = walk_of(book)
+    walk = walk_of(book, free_masks(book))
     found = []
     values = walk.following()
     while values is not None:

@@ -7,11 +7,16 @@ from setchooser.base.names import is_below, is_integer
 from setchooser.base.sieves import Sieve
 
 
-def struck(book, net):
-    """The masks of the lists that striking leaves, and the dict of the ranks in the order of the rounds."""
+def whole_masks(book, net):
+    """The masks with which striking begins if no lists are given."""
+    return [full_mask(book.size) for _ in range(net.size)]
+
+
+def struck(book, net, given):
+    """The masks that striking leaves of the given ones, and the dict of the ranks in the order of the rounds."""
     rows = {name: rows_mask(book[name]) for name in book.names}
     standing = standing_in(net)
-    masks = [full_mask(book.size) for _ in range(net.size)]
+    masks = list(given)
     sieve = Sieve()
     ranks = {}
     ties = list(net.ties)
@@ -26,6 +31,16 @@ def struck(book, net):
         # Other ties have no unknown with a new list, so they have struck all that they can strike.
         ties = list({tie: True for unknown in left for tie in standing[unknown]})
     return masks, ranks
+
+
+def ascending(ranks):
+    """The dict of the same ranks with its keys in Python's order."""
+    return {pair: ranks[pair] for pair in sorted(ranks)}
+
+
+def first_empty(masks):
+    """The least unknown whose mask is empty, or None."""
+    return masks.index(0) if 0 in masks else None
 
 
 def standing_in(net):
@@ -53,14 +68,13 @@ def left_by(sieve, rows, ties, masks):
 def lists(book, net):
     """The tuple of the lists that striking leaves, one for each unknown."""
     check_both(book, net)
-    return tuple([VALUES_IN[mask] for mask in struck(book, net)[0]])
+    return tuple([VALUES_IN[mask] for mask in struck(book, net, whole_masks(book, net))[0]])
 
 
 def strikes(book, net):
     """The dict from the pairs of an unknown and a value that are struck to their ranks."""
     check_both(book, net)
-    ranks = struck(book, net)[1]
-    return {pair: ranks[pair] for pair in sorted(ranks)}
+    return ascending(struck(book, net, whole_masks(book, net))[1])
 
 
 def are_lists(book, net, value):
@@ -99,7 +113,7 @@ def is_strikes(book, net, value):
 
 def masks_from(book, net, ranks, rank):
     """The masks of the values that have no smaller integer than this one."""
-    masks = [full_mask(book.size) for _ in range(net.size)]
+    masks = whole_masks(book, net)
     for pair, other in ranks.items():
         if other < rank:
             masks[pair[0]] = masks[pair[0]] & ~(1 << pair[1])
@@ -121,5 +135,4 @@ def is_shown(sieve, rows, ties, masks, pair):
 def emptied(book, net):
     """The least unknown whose list is left empty, or None."""
     check_both(book, net)
-    masks = struck(book, net)[0]
-    return min([unknown for unknown in range(net.size) if not masks[unknown]], default=None)
+    return first_empty(struck(book, net, whole_masks(book, net))[0])
