@@ -216,7 +216,8 @@ class Papers(unittest.TestCase):
         self.judge(XOR, ("none", (True, ("xor", (1, 1)), ("xor", (1, 1)))), False)
 
     def test_a_book_that_is_decided_has_no_case_tree(self):
-        for book in (HORN, Book(2, {"never": (1, ())}), SPLIT.only(("g", "no")), STEP.only(("less",)).turned((2, 1, 0))):
+        never = Book(2, {"never": (1, ())})
+        for book in (HORN, never, SPLIT.only(("g", "no")), STEP.only(("less",)).turned((2, 1, 0))):
             for tie in set_net(book).ties[:3]:
                 self.judge(book, ("none", (tie,)), False)
                 if book.size == 2:
@@ -239,7 +240,8 @@ class Spoilers(unittest.TestCase):
             self.assertIs(is_spoiler(XOR, value), False)
 
     def test_spoilers_that_are_not_the_set_net(self):
-        for net in (LOOP, ODD, ODD.with_unknowns(4), LOOP + ODD, net_of(5, [("xor", (k, (k + 1) % 5)) for k in range(5)])):
+        ring = net_of(5, [("xor", (k, (k + 1) % 5)) for k in range(5)])
+        for net in (LOOP, ODD, ODD.with_unknowns(4), LOOP + ODD, ring):
             self.assertNotEqual(net, set_net(XOR))
             self.assertIs(is_spoiler(XOR, net), True)
         three = Net(3, (("beats", (0, 1)), ("beats", (1, 0))))
@@ -267,7 +269,8 @@ class Spoilers(unittest.TestCase):
         source = random.Random(55)
         answers = {True: 0, False: 0}
         for _ in range(400):
-            book = random_book(source, source.randint(1, 3), source.randint(1, 3), source.choice((0.4, 0.6)), places=(2, 3))
+            chance = source.choice((0.4, 0.6))
+            book = random_book(source, source.randint(1, 3), source.randint(1, 3), chance, places=(2, 3))
             net = random_net(source, book, source.randint(1, 4), source.randint(1, 6))
             judged = () not in rounds(book, net)[0] and not all_fillings(book, net)
             answers[judged] += 1

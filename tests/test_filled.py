@@ -13,14 +13,14 @@ from setchooser.choose import filled as module
 from setchooser.choose.choosers import chooser
 from setchooser.choose.filled import common, fill, is_filled, is_net_paper, net_paper
 from setchooser.errors import Emptied, InvalidBook, InvalidNet, InvalidNumber, InvalidOperation, NoChooser
+from setchooser.more.given import fixing
 from setchooser.strike.strikes import emptied, strikes
 
 ONE = FORK.with_tie("yes", (1,))
 FULL = FORK.with_tie("yes", (0,))
 BOTH = XOR + HORN.only(("no", "yes"))
-# Decided, but only by choosers that lead each set to 0; what is not 0 has to be searched for.
-ZERO = Book(3, {"ne": (2, rows_where(3, 2, lambda one, other: one != other or one == 0)),
-                "some": (1, ((0,), (1,), (2,)))})
+# Two values differ, or both are 0.
+ZERO = Book(3, {"ne": (2, rows_where(3, 2, lambda one, other: one != other or one == 0))})
 
 
 def decided_books(source, many):
@@ -151,15 +151,13 @@ class Filled(unittest.TestCase, Checks):
     def test_values_that_striking_leaves_but_no_filling_has(self):
         self.assertEqual(rounds(HORN, FORK)[0][0], (0, 1))
         self.assertEqual(common(HORN, FORK, 0), (0,))
-        # The net asks for three different values of four unknowns, each with each, or for 0.
         ties = [("ne", (one, other)) for one in range(4) for other in range(one)]
         net = net_of(4, ties)
         self.assertEqual(common(ZERO, net, 3), (0, 1, 2))
         self.assertEqual(values_in(all_fillings(ZERO, net), 3), (0, 1, 2))
-        # If no value may be 0 but that of the first one, it has to be 0.
-        book = ZERO.with_tie("some", 1, ((1,), (2,))).with_tie("or", 2, rows_where(3, 2, lambda one, two: not one or two))
-        self.assertIsNotNone(chooser(book.without_tie("some")))
-        wide = book.without_tie("some")
+        # If unknown 0 is not 0, none is, and then two of the three others would have equal values.
+        wide = ZERO.with_tie("or", 2, rows_where(3, 2, lambda one, two: not one or two))
+        self.assertIsNotNone(chooser(wide))
         net = net_of(4, ties + [("or", (0, 1)), ("or", (0, 2)), ("or", (0, 3))])
         self.assertEqual(common(wide, net, 0), values_in(all_fillings(wide, net), 0))
         self.assertEqual(common(wide, net, 0), (0,))
@@ -167,17 +165,22 @@ class Filled(unittest.TestCase, Checks):
 
     def test_the_values_that_no_chooser_fixes(self):
         source = random.Random(62)
-        fewer = 0
+        counts = {}
         for _ in range(60):
             rows = [rows_where(3, 2, lambda *row: not any(row) or source.random() < 0.5) for _ in range(2)]
             book = Book(3, {"a": (2, rows[0]), "b": (2, rows[1])})
+            fixed = [fixing(book, (value,)) is not None for value in range(3)]
             net = random_net(source, book, 5, 9)
             told = all_fillings(book, net)
             left = rounds(book, net)[0]
             for unknown in range(5):
-                fewer += values_in(told, unknown) != left[unknown]
-                self.assertEqual(common(book, net, unknown), values_in(told, unknown))
-        self.assertGreater(fewer, 10)
+                values = values_in(told, unknown)
+                self.assertEqual(common(book, net, unknown), values)
+                for value in left[unknown]:
+                    counts[fixed[value], value in values] = counts.get((fixed[value], value in values), 0) + 1
+        # Values that are left and that a chooser fixes, or none does, and that some filling has, or none.
+        self.assertEqual(len(counts), 4)
+        self.assertGreater(min(counts.values()), 5)
 
     def test_books_of_four_values_and_large_nets(self):
         source = random.Random(63)
@@ -278,7 +281,8 @@ class Papers(unittest.TestCase):
         self.judge(HORN, FULL, ("empty", -3, right), False)
         self.judge(HORN, FULL, ("empty", 0, {**right, (3, 0): 5}), False)
         self.judge(HORN, FULL, ("empty", 0, {**right, (0, 2): 5}), False)
-        self.judge(HORN, FULL, ("empty", 0, {(False, 0) if pair == (0, 0) else pair: right[pair] for pair in right}), False)
+        truths = {(False, 0) if pair == (0, 0) else pair: rank for pair, rank in right.items()}
+        self.judge(HORN, FULL, ("empty", 0, truths), False)
         self.judge(HORN, FULL, ("empty", 0, tuple(right.items())), False)
         self.judge(HORN, FORK, ("empty", 0, right), False)
         # Unknown 0 is left a value, so the strikes are right, but do not show that there is no filling.

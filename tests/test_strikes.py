@@ -119,7 +119,8 @@ class Struck(unittest.TestCase):
         self.assertEqual(lists(book, Net(2, (("next", (0, 0)), ("next", (0, 1))))), ((), ()))
 
     def test_no_unknowns_and_no_ties(self):
-        self.assertEqual((lists(HORN, Net(0, ())), strikes(HORN, Net(0, ())), emptied(HORN, Net(0, ()))), ((), {}, None))
+        none = Net(0, ())
+        self.assertEqual((lists(HORN, none), strikes(HORN, none), emptied(HORN, none)), ((), {}, None))
         self.assertEqual(lists(Book(1, {}), Net(3, ())), ((0,),) * 3)
 
     def test_small_nets_against_rounds(self):

@@ -1,1 +1,1 @@
-"""Choosers of books."""
+"""Choosers of books, and what they decide."""

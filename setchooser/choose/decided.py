@@ -44,7 +44,6 @@ def is_book_paper(book, value):
 
 def spoiler(book):
     """None if the book is decided, otherwise its set net."""
-    check_book(book)
     return None if is_decided(book) else set_net(book)
 
 

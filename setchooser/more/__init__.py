@@ -1,0 +1,1 @@
+"""What follows from choosers: joins, kept ties, given lists and cores."""
