@@ -11,7 +11,7 @@ FILES = sorted(path for path in TOP.rglob("*") if path.is_file() and "__pycache_
 BUILTINS = set(
     "len range enumerate zip min max sum abs sorted reversed int str bool bytes list tuple dict set frozenset "
     "isinstance ord repr any all divmod iter Exception ValueError TypeError KeyError IndexError LookupError "
-    "ZeroDivisionError ArithmeticError OverflowError RuntimeError NotImplementedError AttributeError".split())
+    "ZeroDivisionError ArithmeticError OverflowError RuntimeError NotImplementedError AttributeError super".split())
 METHODS = set(
     "append clear copy count endswith extend find get index insert isalnum isalpha isdigit islower isspace isupper "
     "items join keys ljust lower lstrip partition pop remove replace reverse rfind rjust rpartition rsplit rstrip "

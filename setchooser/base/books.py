@@ -89,8 +89,7 @@ class Book:
 
     def with_tie(self, name, places, rows):
         """The book with this tie more, or in the place of that with this name."""
-        if not is_name(name):
-            raise InvalidName("a tie has a name of one to eight small letters")
+        check_name(name)
         ties = dict(self._ties)
         ties[name] = (places, rows)
         return Book(self._size, ties)
@@ -163,6 +162,12 @@ def check_set_of_values(book, value):
     """An error unless this is a set of values of the book, perhaps the empty one."""
     if not is_set_of_values(book, value):
         raise InvalidOperation("this is no set of values of the book")
+
+
+def check_name(name):
+    """An error unless this is any name."""
+    if not is_name(name):
+        raise InvalidName("a name has one to eight small letters")
 
 
 def check_name_of(book, name):

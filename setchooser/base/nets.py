@@ -1,8 +1,8 @@
 """Nets: unknowns, and ties applied to them."""
 
-from setchooser.base.books import MAX_PLACES, check_book
+from setchooser.base.books import MAX_PLACES, check_book, check_name
 from setchooser.base.names import is_ascending, is_below, is_integer, is_name, is_number
-from setchooser.errors import InvalidName, InvalidNet, InvalidNumber, InvalidOperation
+from setchooser.errors import InvalidNet, InvalidNumber, InvalidOperation
 
 MAX_UNKNOWNS = 60
 MAX_APPLIED = 30000
@@ -98,8 +98,7 @@ class Net:
 
     def with_tie(self, name, unknowns):
         """The net with one applied tie more."""
-        if not is_name(name):
-            raise InvalidName("a tie has a name of one to eight small letters")
+        check_name(name)
         if not is_unknowns(self._size, unknowns):
             raise InvalidOperation("this is no tuple of one to three unknowns of the net")
         tie = (name, unknowns)

@@ -1,6 +1,5 @@
 """Walks: the fillings of a web one after another."""
 
-from setchooser.base.masks import VALUES_IN
 from setchooser.base.webs import any_filling, narrow_all
 
 # After so many dead ends behind one another each further step is proved to lead to a filling first.
@@ -45,7 +44,7 @@ class Walk:
         """Gives the next unknown its first value from the least one on that may do: whether one did."""
         unknown = len(self.chosen)
         layer = self.layers[-1]
-        for value in VALUES_IN[layer[unknown]]:
+        for value in self.web.sieve.values_in(layer[unknown]):
             if value >= least:
                 masks = list(layer)
                 masks[unknown] = 1 << value

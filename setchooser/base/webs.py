@@ -2,9 +2,10 @@
 
 A part of a web holds the applied ties that stand at the same unknowns, whatever their order: the
 ascending tuple of these unknowns, the set of rows over them that all these ties allow, and the ties.
+What stands for a set of rows, and for a set of values, is the business of the sieve.
 """
 
-from setchooser.base.masks import MANY_IN, VALUES_IN, full_mask, rows_mask
+from setchooser.base.masks import full_mask, rows_mask
 from setchooser.base.sieves import Sieve
 
 
@@ -78,10 +79,11 @@ class Web:
         best = None
         few = 0
         for unknown, mask in enumerate(masks):
-            if MANY_IN[mask] > 1 and self.touching[unknown]:
-                if best is None or MANY_IN[mask] * self.weights[best] < few * self.weights[unknown]:
+            many = self.sieve.many_in(mask)
+            if many > 1 and self.touching[unknown]:
+                if best is None or many * self.weights[best] < few * self.weights[unknown]:
                     best = unknown
-                    few = MANY_IN[mask]
+                    few = many
         return best
 
     def settle(self, masks, blame):
@@ -91,9 +93,9 @@ class Web:
         """
         unknown = self.pick(masks)
         if unknown is None:
-            return tuple([VALUES_IN[mask][0] for mask in masks]), 0
+            return tuple([self.sieve.values_in(mask)[0] for mask in masks]), 0
         faults = blame[unknown]
-        for value in VALUES_IN[masks[unknown]]:
+        for value in self.sieve.values_in(masks[unknown]):
             below = list(masks)
             below[unknown] = 1 << value
             reasons = list(blame)

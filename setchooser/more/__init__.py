@@ -1,1 +1,1 @@
-"""What follows from choosers: joins, kept ties, given lists and cores."""
+"""What follows from choosers: orders, kept ties, given lists, cores, products, dropped ties, maps and told ties."""

@@ -106,7 +106,7 @@ def is_strikes(book, net, value):
     sieve = Sieve()
     for pair, rank in value.items():
         masks = masks_from(book, net, value, rank)
-        if not is_shown(sieve, rows, standing[pair[0]], masks, pair):
+        if shown_by(sieve, rows, standing[pair[0]], masks, pair) is None:
             return False
     return True
 
@@ -120,16 +120,20 @@ def masks_from(book, net, ranks, rank):
     return masks
 
 
-def is_shown(sieve, rows, ties, masks, pair):
-    """Whether one of the ties has, at a place of the unknown, no row with the value there and else values of masks."""
-    for name, unknowns in ties:
+def shown_by(sieve, rows, ties, masks, pair):
+    """The first of the ties, and the first place of the unknown, that shows that the value is to be struck, or None.
+
+    No row of the tie has the value at this place and values of the masks at all other ones.
+    """
+    for tie in ties:
+        name, unknowns = tie
         for place, unknown in enumerate(unknowns):
             if unknown == pair[0]:
                 tried = [masks[other] for other in unknowns]
                 tried[place] = 1 << pair[1]
                 if not sieve.left(rows[name], tuple(tried))[place]:
-                    return True
-    return False
+                    return tie, place
+    return None
 
 
 def emptied(book, net):
