@@ -113,6 +113,17 @@ class Code(unittest.TestCase):
                     self.assertNotIn(name, taken, where)
                     self.assertFalse(hasattr(builtins, name), where)
 
+    def test_properties_have_names_of_their_own(self):
+        properties, others = [], []
+        for path in FILES:
+            for node in ast.walk(tree_of(path)):
+                if isinstance(node, ast.ClassDef):
+                    for item in node.body:
+                        if isinstance(item, ast.FunctionDef):
+                            (properties if item.decorator_list else others).append(item.name)
+        self.assertEqual(set(properties) & (set(others) | METHODS), set())
+        self.assertIn("held", properties)
+
     def test_sets_are_sorted_counted_or_compared_at_once(self):
         for path in FILES:
             tree = tree_of(path)

@@ -86,7 +86,8 @@ class Errors(unittest.TestCase, Checks):
         self.refuses(chooser_of_both, (XOR, NEVER, least(XOR), least(XOR)), books + [choosers_of, choosers_of])
 
     def no_tuples(self, size):
-        near = [(size,), (0, size), (-1,), (True,), (0, False), (None,), [0], [0, 1], 0, None, "01", ((0,),), (10 ** 99,)]
+        near = [(size,), (0, size), (-1,), (True,), (0, False), (None,), [0], [0, 1], 0, None, "01", ((0,),),
+                (10 ** 99,)]
         return near + [value for value in strange_values() if not (
             isinstance(value, tuple) and all(type(part) is int and 0 <= part < size for part in value))]
 

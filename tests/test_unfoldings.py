@@ -134,7 +134,8 @@ class Errors(unittest.TestCase, Checks):
         self.fails(InvalidOperation, fill_tree, HORN, FORK)
         self.fails(Emptied, fill_tree, HORN, TREE, unknown=0)
         self.fails(Emptied, fill_tree, NEXT, chain(4), unknown=0)
-        self.fails(Emptied, fill_tree, HORN, Net(3, (("no", (1,)), ("no", (2,)), ("yes", (1,)), ("yes", (2,)))), unknown=1)
+        late = Net(3, (("no", (1,)), ("no", (2,)), ("yes", (1,)), ("yes", (2,))))
+        self.fails(Emptied, fill_tree, HORN, late, unknown=1)
 
 
 class Trees(unittest.TestCase):

@@ -47,11 +47,16 @@ def spoiler(book):
     return None if is_decided(book) else set_net(book)
 
 
+def is_open(book, net, masks):
+    """Whether a net that belongs to the book has a filling, if striking leaves these masks."""
+    # If the book is decided, no search is needed to know that there is a filling.
+    return 0 not in masks and (is_decided(book) or first_settled(web_of(book, net), masks) is not None)
+
+
 def is_spoiler(book, value):
     """Whether the value is a net of the book without a filling of which striking leaves each unknown a value."""
     check_book(book)
     if not isinstance(value, Net) or not does_belong(book, value):
         return False
     masks = struck(book, value, whole_masks(book, value))[0]
-    # If the book is decided, no search is needed to know that there is a filling.
-    return 0 not in masks and not is_decided(book) and first_settled(web_of(book, value), masks) is None
+    return 0 not in masks and not is_open(book, value, masks)

@@ -2,12 +2,11 @@
 
 from setchooser.base.books import check_book
 from setchooser.base.fillings import check_both, does_fill
-from setchooser.base.masks import VALUES_IN
 from setchooser.base.names import is_below
 from setchooser.base.nets import check_belongs, check_net, check_unknown
-from setchooser.base.webs import first_settled, web_of
-from setchooser.choose.choosers import chooser, first_into, fixing_masks, led_by
+from setchooser.choose.choosers import chooser, led_by
 from setchooser.choose.decided import check_decided
+from setchooser.choose.tellers import Teller
 from setchooser.errors import Emptied, NoChooser
 from setchooser.strike.strikes import ascending, first_empty, is_strikes, struck, whole_masks
 
@@ -64,17 +63,4 @@ def common(book, net, unknown):
     check_unknown(net, unknown)
     check_belongs(book, net)
     check_decided(book)
-    masks = struck(book, net, whole_masks(book, net))[0]
-    return tuple([value for value in VALUES_IN[masks[unknown]] if is_common(book, net, masks, unknown, value)])
-
-
-def is_common(book, net, masks, unknown, value):
-    """Whether a filling with values of the masks has this value of its mask for the unknown."""
-    given = list(masks)
-    given[unknown] = 1 << value
-    left = struck(book, net, given)[0]
-    if 0 in left:
-        return False
-    # A good chooser that fixes the value makes a filling of what is left, so no search is needed.
-    return (first_into(book, fixing_masks(book, (value,))) is not None
-            or first_settled(web_of(book, net), left) is not None)
+    return tuple([value for (value,) in Teller(book, net).told_at((unknown,))])

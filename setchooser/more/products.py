@@ -14,7 +14,7 @@ def check_books(one, other):
 
 
 def check_product(one, other):
-    """An error unless the books, which are some, have a product."""
+    """An error unless these are books that have a product."""
     check_alike(one, other)
     if one.size * other.size > MAX_VALUES:
         raise InvalidBook("the product would have too many values")
@@ -38,7 +38,6 @@ def values_for(other, first, second):
 
 def product(one, other):
     """The book with a value for each pair of a value of each, and a row for each pair of rows of one tie."""
-    check_books(one, other)
     check_product(one, other)
     ties = {}
     for name in one.names:

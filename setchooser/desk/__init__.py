@@ -1,0 +1,1 @@
+"""A desk: a book and a net under change."""

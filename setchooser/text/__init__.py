@@ -1,0 +1,1 @@
+"""Texts of books, nets, choosers and values, and the shell."""
